@@ -1,7 +1,7 @@
 """The calls that set up the drum, bring rolls and cut plies from them."""
 
 from biasplies.refusals import CANNOT_BE, NO_SUCH, OUT_OF_RANGE, TOO_LITTLE, TOO_MANY
-from biasplies.slant import covered, pieces_round, starts_of, taken
+from biasplies.slant import is_width, starts_of
 from biasplies.works import Ply, Roll
 
 MOST_ROLLS = 10
@@ -43,15 +43,15 @@ def ply(works, told):
     source, width = told
     if not works.has_roll(source):
         return [NO_SUCH]
-    if not 1 <= width <= 2000:
+    if not is_width(width):
         return [OUT_OF_RANGE]
     if len(works.plies) >= MOST_PLIES:
         return [TOO_MANY]
     fabric = works.rolls[source]
-    pieces = pieces_round(covered(fabric.width, works.a, works.c), works.girth, works.shortest)
+    pieces = works.pieces_of(fabric.width)
     if not pieces:
         return [CANNOT_BE]
-    needed = len(pieces) * taken(width, works.a, works.c)
+    needed = works.taken_by(pieces, width)
     if needed > fabric.left:
         return [TOO_LITTLE]
     fabric.left -= needed

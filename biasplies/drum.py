@@ -1,9 +1,11 @@
 """A line of calls on one object: what is told, and what is answered."""
 
 from biasplies.asking import best, fits, least, near
+from biasplies.counting import most, piece, rest, state, sums
 from biasplies.cutting import begin, ply, roll
 from biasplies.laying import lay, lift, row
 from biasplies.refusals import NOT_BEGUN
+from biasplies.telling import all_laid, at_place, look, splices, where
 from biasplies.works import Works
 
 BEGIN = 0
@@ -36,8 +38,8 @@ def told_span(calls, at):
 def answer_of(works, call, told):
     if call != BEGIN and not works.begun:
         return [NOT_BEGUN]
-    built = {
-        0: begin, 1: roll, 2: ply, 3: lay, 4: lift,
-        5: row, 6: least, 7: best, 8: fits, 9: near,
-    }
-    return built[call](works, told)
+    by_number = (
+        begin, roll, ply, lay, lift, row, least, best, fits, near,
+        all_laid, splices, where, most, piece, look, rest, at_place, sums, state,
+    )
+    return by_number[call](works, told)

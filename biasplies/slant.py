@@ -1,6 +1,11 @@
 """What a cut on the slant makes of a width: how much a piece covers, how much it takes."""
 
 
+def is_width(width):
+    """Whether a ply, or the fabric of a piece, may be so wide."""
+    return 1 <= width <= 2000
+
+
 def covered(fabric_width, a, c):
     """How much of the drum a piece of fabric so wide covers."""
     return fabric_width * c // a

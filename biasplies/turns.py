@@ -25,9 +25,23 @@ def meeting_turns(starts, places, girth):
     return sorted(meets)
 
 
-def nearness(turn, meets, girth):
-    """How near splices come with this turn (girth: there's nothing to meet)."""
-    return min([apart(turn, meet, girth) for meet in meets], default=girth)
+def nearness(place, others, girth):
+    """How near a place is to the next of others, or a turn to the next of turns (girth: none)."""
+    return min([apart(place, other, girth) for other in others], default=girth)
+
+
+def nearness_of_plies(marked, girth):
+    """How near any places of two plies are, each marked with its ply (girth: none).
+
+    Between the nearest two lies no third place: it'd be of another ply than one of them,
+    and nearer to that one. So it's enough to hold each place against the next one.
+    """
+    ordered = sorted(marked)
+    behind = ordered[1:] + ordered[:1]
+    return min(
+        [apart(one[0], two[0], girth) for one, two in zip(ordered, behind) if one[1] != two[1]],
+        default=girth,
+    )
 
 
 def nearness_by_turn(meets, girth):

@@ -1,5 +1,6 @@
 """What one line of calls keeps: the drum, the rolls and the plies."""
 
+from biasplies.slant import covered, pieces_round, taken
 from biasplies.turns import meeting_turns, nearness, nearness_by_turn, turned
 
 
@@ -47,8 +48,24 @@ class Works:
     def has_ply(self, number):
         return number < len(self.plies)
 
+    def laid_numbers(self):
+        """The plies that are laid, rising."""
+        return [number for number, ply in enumerate(self.plies) if ply.is_laid()]
+
     def laid_count(self):
-        return len([ply for ply in self.plies if ply.is_laid()])
+        return len(self.laid_numbers())
+
+    def cover_of(self, fabric_width):
+        """How much of the drum a piece of fabric so wide covers."""
+        return covered(fabric_width, self.a, self.c)
+
+    def pieces_of(self, fabric_width):
+        """How much of the drum each piece of a ply covers; an empty list if there's no such ply."""
+        return pieces_round(self.cover_of(fabric_width), self.girth, self.shortest)
+
+    def taken_by(self, pieces, width):
+        """How much of a roll's length these pieces of a ply so wide take together."""
+        return len(pieces) * taken(width, self.a, self.c)
 
     def meets_of_others(self, number):
         """The turns with which this ply meets a splice of another that's laid."""

@@ -1,11 +1,6 @@
 import unittest
 
-from helper import BIG, begun, last, ones, told
-
-
-def of_three_and_two(girth=1000, near=10):
-    """Ply 0 with splices at 0, 400 and 800, ply 1 with splices at 0 and 500."""
-    return [begun(girth, near), ("roll", 240, 1000), ("roll", 300, 1000), ("ply", 0, 3), ("ply", 1, 3)]
+from helper import BIG, last, of_three_and_two, ones, told
 
 
 class LeastTest(unittest.TestCase):

@@ -1,6 +1,6 @@
 import unittest
 
-from helper import last, told
+from helper import BIG, last, told
 
 # Ten pieces a ply: as many splices as plies can have.
 CUT = [("roll", 150, 1000000), *[("ply", 0, 3)] * 12]
@@ -36,6 +36,21 @@ class EndsTest(unittest.TestCase):
             (("best", 11), [135, 15]), (("best", 0), [141, 21]), (("least", 11), [132]),
             (("fits", 11, 1499), [0, 1]), (("near", 0, 10), [30]), (("lay", 11, 140), [-40]),
             (("row", 11, 0), [-17]),
+        ):
+            each = told(*filled(laid, call))
+            self.assertEqual(len(each), 400)
+            self.assertEqual(each[15:], [answer] * 385, call)
+
+    def test_telling_again_and_again(self):
+        laid = [*widest(12), ("row", *PLIES)]
+        starts = range(0, 1500, 150)
+        for call, answer in (
+            (("all",), [12, *PLIES]), (("splices", 11), [10, *starts]),
+            (("where", 11), [132, *[start + 132 for start in starts]]),
+            (("most", 0, 1), [49976, 20]), (("piece", 150), [150, 10, 150]), (("piece", 1), [1, 1500, 1]),
+            (("look", 11), [0, 3, 10, 133]), (("rest", 0), [999520, 150, 1000000]),
+            (("at", 5, 6), [1, 0]), (("at", 1499, BIG), [12, *PLIES]),
+            (("sums",), [0, 1000000, 999520, 480]), (("state",), [12, 1, 12, 1500, 12, 1]),
         ):
             each = told(*filled(laid, call))
             self.assertEqual(len(each), 400)

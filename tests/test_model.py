@@ -2,26 +2,7 @@
 
 import unittest
 
-from helper import BIG, told
-
-SLANTS = ((3, 4, 5), (4, 3, 5), (5, 12, 13), (12, 5, 13), (20, 21, 29), (924, 43, 925))
-
-
-class Numbers:
-    """The same numbers each time, that follow no plain order."""
-
-    def __init__(self, seed):
-        self.state = seed
-
-    def below(self, bound):
-        self.state = (self.state * 6364136223846793005 + 1442695040888963407) % 2 ** 64
-        return (self.state >> 33) % bound
-
-    def within(self, low, high):
-        return low + self.below(high - low + 1)
-
-    def one_of(self, choices):
-        return choices[self.below(len(choices))]
+from helper import NAMES, Numbers, some_line, told
 
 
 class Model:
@@ -42,6 +23,10 @@ class Model:
         if when:
             raise ValueError(number)
 
+    def roll_told(self, number):
+        self.refuse(-2, number >= len(self.rolls))
+        return self.rolls[number]
+
     def ply_told(self, number):
         self.refuse(-2, number >= len(self.plies))
         return self.plies[number]
@@ -57,35 +42,45 @@ class Model:
     def roll(self, wide, long):
         self.refuse(-22, wide < 150 or wide > 2000 or long < 1 or long > 1000000)
         self.refuse(-28, len(self.rolls) == 10)
-        self.rolls.append([wide, long])
+        self.rolls.append({"wide": wide, "long": long, "left": long})
         return [len(self.rolls) - 1]
 
-    def pieces(self, fabric):
+    def covers(self, fabric):
         covers = 0
         while (covers + 1) * self.a <= fabric * self.c:
             covers += 1
+        return covers
+
+    def pieces(self, fabric):
+        covers = self.covers(fabric)
         pieces = []
         while sum(pieces) < self.round:
             pieces.append(min(covers, self.round - sum(pieces)))
         while len(pieces) > 1 and pieces[-1] < self.short:
             pieces[-1] += 1
             pieces[-2] -= 1
-        if len(pieces) > 1 and pieces[-2] < self.short:
-            return None
+        self.refuse(-33, len(pieces) > 1 and pieces[-2] < self.short)
         return pieces
 
-    def ply(self, roll, wide):
-        self.refuse(-2, roll >= len(self.rolls))
+    def takes(self, pieces, wide):
+        each = wide * self.c // self.a + (1 if wide * self.c % self.a else 0)
+        return sum(each for piece in pieces)
+
+    def ply(self, r, wide):
+        roll = self.roll_told(r)
         self.refuse(-22, wide < 1 or wide > 2000)
         self.refuse(-28, len(self.plies) == 12)
-        pieces = self.pieces(self.rolls[roll][0])
-        self.refuse(-33, pieces is None)
-        each = wide * self.c // self.a + (1 if wide * self.c % self.a else 0)
-        takes = sum(each for piece in pieces)
-        self.refuse(-12, takes > self.rolls[roll][1])
-        self.rolls[roll][1] -= takes
-        self.plies.append({"splices": [sum(pieces[:i]) for i in range(len(pieces))], "turn": None})
+        pieces = self.pieces(roll["wide"])
+        takes = self.takes(pieces, wide)
+        self.refuse(-12, takes > roll["left"])
+        roll["left"] -= takes
+        splices = [sum(pieces[:i]) for i in range(len(pieces))]
+        self.plies.append({"roll": r, "wide": wide, "takes": takes, "splices": splices, "turn": None})
         return [len(self.plies) - 1, len(pieces)]
+
+    def apart(self, one, two):
+        way = max(one, two) - min(one, two)
+        return min(way, self.round - way)
 
     def how_near(self, ply, turn, others):
         least = self.round
@@ -93,8 +88,7 @@ class Model:
             for i in ply["splices"]:
                 for j in other["splices"]:
                     one, two = (i + turn) % self.round, (j + other["turn"]) % self.round
-                    way = max(one, two) - min(one, two)
-                    least = min(least, way, self.round - way)
+                    least = min(least, self.apart(one, two))
         return least
 
     def others(self, ply):
@@ -159,66 +153,98 @@ class Model:
         self.refuse(-6, one["turn"] is None or two["turn"] is None)
         return [self.how_near(one, one["turn"], [two])]
 
+    def laid(self):
+        return [number for number, ply in enumerate(self.plies) if ply["turn"] is not None]
 
-def some_begin(numbers):
-    girth = numbers.one_of((100, 120, 199, 200, 250, 300, 333))
-    near = numbers.one_of((0, 1, 5, 10, 20, 50, 100, 110))
-    call = ["begin", *numbers.one_of(SLANTS), girth, near, numbers.one_of((1, 20, 50, 70, 100, 200))]
-    if numbers.below(6) == 0:
-        call[numbers.within(1, 6)] = numbers.one_of((0, 99, 501, 1501, BIG))
-    return tuple(call)
+    def all(self):
+        least = self.round
+        for number in self.laid():
+            ply = self.plies[number]
+            least = min(least, self.how_near(ply, ply["turn"], self.others(ply)))
+        return [least] + self.laid()
+
+    def splices(self, p):
+        ply = self.ply_told(p)
+        return [len(ply["splices"])] + ply["splices"]
+
+    def places(self, ply):
+        return [(splice + ply["turn"]) % self.round for splice in ply["splices"]]
+
+    def where(self, p):
+        ply = self.ply_told(p)
+        self.refuse(-6, ply["turn"] is None)
+        return [ply["turn"]] + self.places(ply)
+
+    def most(self, r, wide):
+        roll = self.roll_told(r)
+        self.refuse(-22, wide < 1 or wide > 2000)
+        takes = self.takes(self.pieces(roll["wide"]), wide)
+        left, many = roll["left"], 0
+        while left >= takes:
+            left -= takes
+            many += 1
+        return [many, takes]
+
+    def piece(self, fabric):
+        self.refuse(-22, fabric < 1 or fabric > 2000)
+        pieces = self.pieces(fabric)
+        return [self.covers(fabric), len(pieces), pieces[-1]]
+
+    def look(self, p):
+        ply = self.ply_told(p)
+        turn_and_one = 0 if ply["turn"] is None else ply["turn"] + 1
+        return [ply["roll"], ply["wide"], len(ply["splices"]), turn_and_one]
+
+    def rest(self, r):
+        roll = self.roll_told(r)
+        return [roll["left"], roll["wide"], roll["long"]]
+
+    def at(self, place, n):
+        self.refuse(-22, place >= self.round)
+        found = [
+            number for number in self.laid()
+            if any(self.apart(place, other) <= n for other in self.places(self.plies[number]))
+        ]
+        return [len(found)] + found
+
+    def sums(self):
+        long = sum(roll["long"] for roll in self.rolls)
+        left = sum(roll["left"] for roll in self.rolls)
+        return [0, long, left, sum(ply["takes"] for ply in self.plies)]
+
+    def state(self):
+        return [len(self.laid()), len(self.rolls), len(self.plies), self.round, self.may, self.short]
 
 
-def some_call(numbers, girth):
-    def ply():
-        return numbers.below(8)
-
-    def turn():
-        return numbers.one_of((0, girth - 1, girth, girth // 2)) if numbers.below(5) == 0 else numbers.below(girth)
-
-    name = numbers.one_of((
-        "roll", "ply", "ply", "ply", "lay", "lay", "lay", "lift", "row", "least", "best", "fits", "near",
-    ))
-    if name == "roll":
-        return (name, numbers.one_of((149, 150, 151, 160, 200, 250, 400)), numbers.within(0, 3000))
-    if name == "ply":
-        return (name, numbers.below(3), numbers.one_of((0, 1, 2, 3, 10, 50, 100, 400, 2001)))
-    if name == "row":
-        return (name, *[ply() for count in range(numbers.below(5))])
-    if name in ("lay", "fits"):
-        return (name, ply(), turn())
-    return (name, ply(), ply()) if name == "near" else (name, ply())
-
-
-def some_line(seed):
-    numbers = Numbers(seed)
-    start = some_begin(numbers)
-    girth = start[4] or 1
-    calls = [some_call(numbers, girth) for count in range(numbers.below(3))]
-    calls.extend([start, ("roll", 150, 3000), ("roll", 170, 2000), ("ply", 0, 50), ("ply", 1, 30)])
-    for count in range(30):
-        calls.append(some_begin(numbers) if numbers.below(60) == 0 else some_call(numbers, girth))
-    return calls
+# What each call answers at some time: 0 stands for all that's not a refusal.
+ANSWERED = {
+    "begin": (0, -22), "roll": (0, -11, -22, -28), "ply": (0, -11, -2, -22, -28, -33, -12),
+    "lay": (0, -11, -2, -22, -17, -40), "lift": (0, -11, -2, -6), "row": (0, -11, -22, -2, -17, -33),
+    "least": (0, -11, -2, -17, -33), "best": (0, -11, -2, -6), "fits": (0, -11, -2, -22),
+    "near": (0, -11, -2, -22, -6), "all": (0, -11), "splices": (0, -11, -2), "where": (0, -11, -2, -6),
+    "most": (0, -11, -2, -22, -33), "piece": (0, -11, -22, -33), "look": (0, -11, -2),
+    "rest": (0, -11, -2), "at": (0, -11, -22), "sums": (0, -11), "state": (0, -11),
+}
 
 
 class ModelTest(unittest.TestCase):
+    def hold(self, calls, met):
+        model = Model()
+        for call, answer in zip(calls, told(*calls)):
+            self.assertEqual(answer, model.answer(call[0], call[1:]), (call, calls))
+            met[(call[0], min(answer[0], 0))] = True
+
     def test_lines_of_all_sorts(self):
         met = {}
-        for seed in range(600):
-            calls = some_line(seed)
-            model = Model()
-            for call, answer in zip(calls, told(*calls)):
-                self.assertEqual(answer, model.answer(call[0], call[1:]), (seed, call, calls))
-                met[(call[0], min(answer[0], 0))] = True
+        for seed in range(2000):
+            self.hold(some_line(seed, 1 + Numbers(seed).below(60)), met)
+        for seed in range(40):
+            self.hold(some_line(5000 + seed, 400 - 7 * seed), met)
+        for seed in range(20):
+            self.hold(some_line(6000 + seed, 40, (1000, 1499, 1500)), met)
         # Lines that never come to the promises would tell nothing.
-        for name, refusals in (
-            ("begin", (0, -22)), ("roll", (0, -22)), ("ply", (0, -2, -22, -33, -12)),
-            ("lay", (0, -2, -22, -17, -40)), ("lift", (0, -2, -6)), ("row", (0, -22, -2, -17, -33)),
-            ("least", (0, -2, -17, -33)), ("best", (0, -2, -6)), ("fits", (0, -2, -22)),
-            ("near", (0, -2, -22, -6)),
-        ):
-            for refusal in refusals:
-                self.assertIn((name, refusal), met)
+        self.assertEqual(tuple(ANSWERED), NAMES)
+        self.assertEqual(set(met), {(name, answer) for name in NAMES for answer in ANSWERED[name]})
 
 
 if __name__ == "__main__":
